@@ -86,9 +86,6 @@ func TestNextOfZero(t *testing.T) {
 	if got := rand.New(0, zeroAt()).Next(); uint64(got) != one.next() {
 		t.Errorf("%x", got)
 	}
-	if got := new(rand.Source).Next(); uint64(got) != (&plain{0}).next() {
-		t.Errorf("a source of nothing: %x", got)
-	}
 }
 
 // P4.2: Below takes one number, and tells one below n.
