@@ -61,6 +61,10 @@ func TestRead(t *testing.T) {
 	expect(t, "245 bytes", with(copyOf(1, data(245)), nil), data(245), api.OK)
 	expect(t, "246 bytes", with(copyOf(1, data(246))[:256], nil), nil, api.ErrNone)
 	expect(t, "a length beyond", with(copyOf(1, data(245))[:4], nil), nil, api.ErrNone)
+	far := binary.BigEndian.AppendUint16([]byte{0, 0, 0, 1}, 0x0105)
+	far = append(far, data(5)...)
+	far = append(binary.BigEndian.AppendUint32(far, crc32.ChecksumIEEE(far)), 0)
+	expect(t, "a length of two bytes", with(far, nil), nil, api.ErrNone)
 	f := with(copyOf(1, old), nil)
 	f.Cut()
 	expect(t, "no power", f, nil, api.ErrDown)
@@ -128,6 +132,9 @@ func TestWriteBesideWhatIsThere(t *testing.T) {
 		{copyOf(4, nil), copyOf(4, nil), 1, 5},
 		{copyOf(0, nil), nil, 1, 1},
 		{copyOf(math.MaxUint32-1, nil), nil, 1, math.MaxUint32},
+		{copyOf(0x01020303, nil), copyOf(0x01020302, nil), 1, 0x01020304},
+		{copyOf(0x00fffffe, nil), copyOf(0x00ffffff, nil), 0, 0x01000000},
+		{copyOf(0xfedcba97, nil), copyOf(0xfedcba98, nil), 0, 0xfedcba99},
 		{copyOf(4, data(9)), copyOf(5, nil)[:10], 1, 5},
 	} {
 		f := with(c.a, c.b)

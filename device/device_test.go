@@ -162,12 +162,12 @@ func TestDeviceKeepsToItself(t *testing.T) {
 		t.Error("what was handed in was changed")
 	}
 	clear(first)
-	want := stateOf(t, d)
+	want, _ := state.Bytes(stateOf(t, d))
 	s := stateOf(t, d)
 	clear(s.Slots[0].Hash)
 	clear(s.Now.Hash)
 	clear(d.Running())
-	if !bytes.Equal(d.Running(), image(50, 1)) || !state.Same(stateOf(t, d), want) {
+	if b, _ := state.Bytes(stateOf(t, d)); !bytes.Equal(d.Running(), image(50, 1)) || !bytes.Equal(b, want) {
 		t.Error("memory is shared")
 	}
 }
@@ -333,6 +333,21 @@ func TestFinish(t *testing.T) {
 	}
 }
 
+// P24.3: one broadcast behind the other: each goes into the slot that does not run.
+func TestFinishAgain(t *testing.T) {
+	d := made(t, 200, 99)
+	for v := 2; v < 6; v++ {
+		s := skyOf(uint32(v), image(100+v, v), 10, 2)
+		filled(t, d, s)
+		expect(t, "the last symbol", d.Packet(s.symbol(s.pieces()-1)), api.OK)
+		expect(t, "Confirm", d.Confirm(), api.OK)
+		st := stateOf(t, d)
+		if st.Active != (v+1)%2 || !bytes.Equal(d.Running(), image(100+v, v)) || !slot.Right(d.Flash(), 0, st.Slots[0]) || !slot.Right(d.Flash(), 1, st.Slots[1]) {
+			t.Errorf("version %d: %+v", v, st)
+		}
+	}
+}
+
 // P24.4: three starts without a Confirm lead back; with one it stays.
 func TestBootAndConfirm(t *testing.T) {
 	d := made(t, 200, 99)
@@ -434,8 +449,10 @@ func TestPowerFinishes(t *testing.T) {
 
 // P24.3, P24.4: what cannot be written stays taken, and is ready.
 func TestReady(t *testing.T) {
-	d := made(t, 200, 1)
-	d.Flash().Erase(4)
+	d := made(t, 200, 9)
+	for range 9 {
+		d.Flash().Erase(4)
+	}
 	d.Flash().Program(4*256, []byte{0})
 	s := skyOf(2, image(100, 2), 10, 2)
 	filled(t, d, s)

@@ -82,6 +82,14 @@ func TestRightRefuses(t *testing.T) {
 			tag[i] ^= 1 << bit
 		}
 	}
+	for i := range tag {
+		j := (i + 7) % len(tag)
+		tag[i], tag[j] = tag[i]^1, tag[j]^1
+		if mac.Right(key, b, tag) {
+			t.Errorf("bytes %d and %d", i, j)
+		}
+		tag[i], tag[j] = tag[i]^1, tag[j]^1
+	}
 	for _, wrong := range [][]byte{nil, {}, tag[:1], tag[:31], append(bytes.Clone(tag), 0), bytes.Repeat(tag, 2), make([]byte, 32)} {
 		if mac.Right(key, b, wrong) {
 			t.Errorf("%x", wrong)

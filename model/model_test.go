@@ -207,11 +207,14 @@ func TestModelKeepsToItself(t *testing.T) {
 	first := skyOf(2, image(100, 2), 10, 2).first()
 	expect(t, "the manifest", m.Packet(first), api.OK)
 	clear(first)
-	want, got := m.State(), m.State()
+	want, _ := state.Bytes(m.State())
+	got := m.State()
 	clear(got.Slots[0].Hash)
 	clear(got.Now.Hash)
 	clear(m.Running())
-	is(t, m, want, api.STaking, 0, image(200, 1))
+	if b, e := state.Bytes(m.State()); e != api.OK || !bytes.Equal(b, want) || !bytes.Equal(m.Running(), image(200, 1)) {
+		t.Error("memory is shared")
+	}
 }
 
 // P25.3: a device whose power does not go tells the same, whatever comes.
